@@ -44,6 +44,16 @@ func lead(c byte) (rune, int) {
 	return 0, 0
 }
 
+// plain is how many bytes up to 127 stand at the beginning: most texts have no others, and each is a rune.
+func plain(b []byte) int {
+	for i := range len(b) {
+		if b[i] > 127 {
+			return i
+		}
+	}
+	return len(b)
+}
+
 // Right: are bytes runes' bytes, one behind the other?
 func Right(b []byte) bool {
 	_, e := Count(b)
@@ -54,6 +64,11 @@ func Right(b []byte) bool {
 func Count(b []byte) (int, api.Errno) {
 	n := 0
 	for len(b) > 0 {
+		if k := plain(b); k > 0 {
+			b = b[k:]
+			n += k
+			continue
+		}
 		_, size, e := First(b)
 		if e != api.OK {
 			return 0, e

@@ -14,6 +14,7 @@ import (
 	"vouchsafe/edsig"
 	"vouchsafe/json"
 	"vouchsafe/seal"
+	"vouchsafe/tree"
 )
 
 func signer() api.Signer {
@@ -128,7 +129,7 @@ func TestLong(t *testing.T) {
 	d := draft(t, `{}`)
 	long := func(n int) api.Event {
 		e := d
-		e.Content = api.Value{Kind: api.Object, Names: []string{"a"}, Items: []api.Value{text(strings.Repeat("x", n))}}
+		e.Content = api.Value{Kind: api.Object, Names: []string{"a"}, Items: []api.Value{tree.Text(strings.Repeat("x", n))}}
 		return e
 	}
 	empty := build(t, long(0))

@@ -3,18 +3,8 @@ package event
 import (
 	"vouchsafe/api"
 	"vouchsafe/json"
+	"vouchsafe/tree"
 )
-
-func text(s string) api.Value { return api.Value{Kind: api.Text, Text: s} }
-func number(n int) api.Value  { return api.Value{Kind: api.Number, Num: n} }
-
-func texts(l []string) api.Value {
-	v := api.Value{Kind: api.List}
-	for _, s := range l {
-		v.Items = append(v.Items, text(s))
-	}
-	return v
-}
 
 // object lays an event's fields out, by rising names; whether it is right, the caller asks.
 func object(e api.Event) api.Value {
@@ -23,19 +13,19 @@ func object(e api.Event) api.Value {
 		v.Names = append(v.Names, name)
 		v.Items = append(v.Items, x)
 	}
-	add("auth_events", texts(e.Auth))
+	add("auth_events", tree.Texts(e.Auth...))
 	add("content", e.Content)
-	add("depth", number(e.Depth))
-	add(hashes, api.Value{Kind: api.Object, Names: []string{algorithm}, Items: []api.Value{text(e.Hash)}})
-	add("origin_server_ts", number(e.Time))
-	add("prev_events", texts(e.Prev))
-	add("room_id", text(e.Room))
-	add("sender", text(e.Sender))
+	add("depth", tree.Number(e.Depth))
+	add(hashes, api.Value{Kind: api.Object, Names: []string{algorithm}, Items: []api.Value{tree.Text(e.Hash)}})
+	add("origin_server_ts", tree.Number(e.Time))
+	add("prev_events", tree.Texts(e.Prev...))
+	add("room_id", tree.Text(e.Room))
+	add("sender", tree.Text(e.Sender))
 	add(signatures, e.Sigs)
 	if e.State {
-		add(stateKey, text(e.Key))
+		add(stateKey, tree.Text(e.Key))
 	}
-	add("type", text(e.Type))
+	add("type", tree.Text(e.Type))
 	return v
 }
 

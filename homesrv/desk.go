@@ -10,6 +10,7 @@ import (
 	"vouchsafe/json"
 	"vouchsafe/room"
 	"vouchsafe/rule"
+	"vouchsafe/tree"
 )
 
 // The types of events that a homeserver makes of itself.
@@ -52,11 +53,7 @@ func (d *desk) follow(o api.Order) api.Result {
 }
 
 func text(name, s string) api.Pair {
-	return api.Pair{Name: name, Value: api.Value{Kind: api.Text, Text: s}}
-}
-
-func inside(name string, v api.Value) api.Pair {
-	return api.Pair{Name: name, Value: v}
+	return tree.Pair(name, tree.Text(s))
 }
 
 // object is made of pairs; of some that make none it is no object, which no event takes.
@@ -99,11 +96,10 @@ func (d *desk) create(o api.Order) api.Result {
 	if len(d.Rooms) >= maxRooms {
 		return failed(api.ErrFull)
 	}
-	level := api.Value{Kind: api.Number, Num: creatorLevel}
 	first := []api.Event{
 		{Type: ofCreation, Content: object(text("creator", o.User))},
 		{Type: ofMember, Key: o.User, Content: object(text("membership", "join"))},
-		{Type: ofLevels, Content: object(inside("users", object(inside(o.User, level))))},
+		{Type: ofLevels, Content: object(tree.Pair("users", object(tree.Pair(o.User, tree.Number(creatorLevel)))))},
 	}
 	var r api.Room
 	var made []api.Event
@@ -178,7 +174,7 @@ func (d *desk) exchange(o api.Order) api.Result {
 	if !Own(d.Home, third.Sender) {
 		return failed(api.ErrArg)
 	}
-	content, fault := json.Make(text("membership", "invite"), inside("third_party_invite", object(inside("signed", o.Content))))
+	content, fault := json.Make(text("membership", "invite"), tree.Pair("third_party_invite", object(tree.Pair("signed", o.Content))))
 	if fault != api.OK || json.Deep(o.Content)+2 > api.MaxNest {
 		return failed(api.ErrArg)
 	}

@@ -14,6 +14,7 @@ import (
 	"vouchsafe/plain"
 	"vouchsafe/pledge"
 	"vouchsafe/session"
+	"vouchsafe/tree"
 )
 
 // clerk answers questions: the state that it works on, and the house it works for.
@@ -222,8 +223,8 @@ func (c *clerk) store(a api.Ask) api.Answer {
 		return failed(e)
 	}
 	keys, e := json.Make(
-		api.Pair{Name: "public", Value: api.Value{Kind: api.Text, Text: c.key()}},
-		api.Pair{Name: "ephemeral", Value: api.Value{Kind: api.Text, Text: pledge.Key(p)}},
+		tree.Pair("public", tree.Text(c.key())),
+		tree.Pair("ephemeral", tree.Text(pledge.Key(p))),
 	)
 	if e != api.OK {
 		return failed(e)

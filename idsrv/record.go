@@ -7,6 +7,7 @@ import (
 	"vouchsafe/api"
 	"vouchsafe/canon"
 	"vouchsafe/json"
+	"vouchsafe/tree"
 )
 
 // The texts that records begin with.
@@ -19,22 +20,11 @@ const (
 	ofPledge  = "p"
 )
 
-func text(s string) api.Value { return api.Value{Kind: api.Text, Text: s} }
-func number(n int) api.Value  { return api.Value{Kind: api.Number, Num: n} }
-
-func texts(l []string) api.Value {
-	v := api.Value{Kind: api.List}
-	for _, s := range l {
-		v.Items = append(v.Items, text(s))
-	}
-	return v
-}
-
 func flag(b bool) api.Value {
 	if b {
-		return number(1)
+		return tree.Number(1)
 	}
-	return number(0)
+	return tree.Number(0)
 }
 
 // record is the text of a list.
@@ -51,9 +41,9 @@ func record(items ...api.Value) ([]byte, api.Errno) {
 
 // Record is a question's record.
 func Record(a api.Ask) ([]byte, api.Errno) {
-	return record(text(ofAsk), number(a.Kind), text(a.Token), text(a.Secret), text(a.Medium), text(a.Where), text(a.Mxid),
-		text(a.Room), text(a.Sender), number(a.ID), number(a.Attempt), text(a.Code), number(a.N), texts(a.Docs), texts(a.Draws),
-		text(a.Question.Algorithm), text(a.Question.Pepper), texts(a.Question.Addresses))
+	return record(tree.Text(ofAsk), tree.Number(a.Kind), tree.Text(a.Token), tree.Text(a.Secret), tree.Text(a.Medium), tree.Text(a.Where), tree.Text(a.Mxid),
+		tree.Text(a.Room), tree.Text(a.Sender), tree.Number(a.ID), tree.Number(a.Attempt), tree.Text(a.Code), tree.Number(a.N), tree.Texts(a.Docs...), tree.Texts(a.Draws...),
+		tree.Text(a.Question.Algorithm), tree.Text(a.Question.Pepper), tree.Texts(a.Question.Addresses...))
 }
 
 // row is what is left to be read of a record; wrong, once an item wasn't as it was asked for.
@@ -119,19 +109,19 @@ func Pack(s api.Identity) ([][]byte, api.Errno) {
 	if !rightState(s) {
 		return nil, api.ErrArg
 	}
-	rows := [][]api.Value{{text(ofMain), number(s.Now), text(s.Pepper)}}
+	rows := [][]api.Value{{tree.Text(ofMain), tree.Number(s.Now), tree.Text(s.Pepper)}}
 	for _, x := range s.Sessions {
-		rows = append(rows, []api.Value{text(ofSession), number(x.ID), text(x.Secret), text(x.Who.Medium), text(x.Who.Where), text(x.Token),
-			number(x.Attempt), number(x.Since), number(x.Wrong), flag(x.Shown), number(x.ShownAt)})
+		rows = append(rows, []api.Value{tree.Text(ofSession), tree.Number(x.ID), tree.Text(x.Secret), tree.Text(x.Who.Medium), tree.Text(x.Who.Where), tree.Text(x.Token),
+			tree.Number(x.Attempt), tree.Number(x.Since), tree.Number(x.Wrong), flag(x.Shown), tree.Number(x.ShownAt)})
 	}
 	for _, x := range s.Users {
-		rows = append(rows, []api.Value{text(ofUser), text(x.Token), text(x.Mxid), texts(x.Agreed)})
+		rows = append(rows, []api.Value{tree.Text(ofUser), tree.Text(x.Token), tree.Text(x.Mxid), tree.Texts(x.Agreed...)})
 	}
 	for _, x := range s.Bonds {
-		rows = append(rows, []api.Value{text(ofBond), text(x.Who.Medium), text(x.Who.Where), text(x.Mxid), number(x.Since)})
+		rows = append(rows, []api.Value{tree.Text(ofBond), tree.Text(x.Who.Medium), tree.Text(x.Who.Where), tree.Text(x.Mxid), tree.Number(x.Since)})
 	}
 	for _, x := range s.Pledges {
-		rows = append(rows, []api.Value{text(ofPledge), text(x.Token), text(x.Who.Medium), text(x.Who.Where), text(x.Room), text(x.Sender), text(x.Seed), text(x.Bound)})
+		rows = append(rows, []api.Value{tree.Text(ofPledge), tree.Text(x.Token), tree.Text(x.Who.Medium), tree.Text(x.Who.Where), tree.Text(x.Room), tree.Text(x.Sender), tree.Text(x.Seed), tree.Text(x.Bound)})
 	}
 	var l [][]byte
 	for _, items := range rows {

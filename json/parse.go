@@ -99,53 +99,48 @@ func (p *parser) nested(read func() (api.Value, api.Errno)) (api.Value, api.Errn
 	p.deep++
 	v, e := read()
 	p.deep--
-	return v, e
+	if e != api.OK {
+		return api.Value{}, e
+	}
+	return v, api.OK
+}
+
+// members reads what stands between two brackets, with commas between.
+func (p *parser) members(first, last byte, one func() api.Errno) api.Errno {
+	p.take(first)
+	p.blanks()
+	if p.take(last) {
+		return api.OK
+	}
+	for {
+		p.blanks()
+		if e := one(); e != api.OK {
+			return e
+		}
+		p.blanks()
+		if p.take(last) {
+			return api.OK
+		}
+		if !p.take(',') {
+			return api.ErrForm
+		}
+	}
 }
 
 func (p *parser) list() (api.Value, api.Errno) {
 	v := api.Value{Kind: api.List}
-	p.take('[')
-	p.blanks()
-	if p.take(']') {
-		return v, api.OK
-	}
-	for {
-		p.blanks()
+	e := p.members('[', ']', func() api.Errno {
 		x, e := p.value()
-		if e != api.OK {
-			return api.Value{}, e
-		}
 		v.Items = append(v.Items, x)
-		p.blanks()
-		if p.take(']') {
-			return v, api.OK
-		}
-		if !p.take(',') {
-			return api.Value{}, api.ErrForm
-		}
-	}
+		return e
+	})
+	return v, e
 }
 
 func (p *parser) object() (api.Value, api.Errno) {
 	v := api.Value{Kind: api.Object}
-	p.take('{')
-	p.blanks()
-	if p.take('}') {
-		return v, api.OK
-	}
-	for {
-		p.blanks()
-		if e := p.pair(&v); e != api.OK {
-			return api.Value{}, e
-		}
-		p.blanks()
-		if p.take('}') {
-			return v, api.OK
-		}
-		if !p.take(',') {
-			return api.Value{}, api.ErrForm
-		}
-	}
+	e := p.members('{', '}', func() api.Errno { return p.pair(&v) })
+	return v, e
 }
 
 // pair reads a name, a colon and a value into an object.

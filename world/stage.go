@@ -15,6 +15,7 @@ import (
 	"vouchsafe/lookup"
 	"vouchsafe/plain"
 	"vouchsafe/pledge"
+	"vouchsafe/tree"
 )
 
 // stage is where an act is done: the world that it changes.
@@ -24,10 +25,6 @@ type stage struct {
 
 func failed(e api.Errno) api.Told {
 	return api.Told{Code: e}
-}
-
-func text(s string) api.Value {
-	return api.Value{Kind: api.Text, Text: s}
 }
 
 // send lays a letter behind all that are under way; where there is no room, it is lost.
@@ -124,7 +121,7 @@ func (s *stage) whose(token string, who api.Address) (string, api.Errno) {
 
 // inviteUser invites one who is known.
 func (s *stage) inviteUser(at int, o api.Order, user string) api.Errno {
-	content, e := json.Make(api.Pair{Name: "membership", Value: text("invite")})
+	content, e := json.Make(tree.Pair("membership", tree.Text("invite")))
 	if e != api.OK {
 		return e
 	}

@@ -26,6 +26,8 @@ type watch struct {
 	blocks map[string]string // of each token its block's text
 	known  map[string]bool   // events that were looked at already
 	made   int               // how many invites with blocks were taken
+
+	checked map[string]bool // of each block's text whether it is vouched for
 }
 
 func letters(seed [32]byte) string {
@@ -68,7 +70,11 @@ func (x *watch) see() {
 
 // vouched: does the identity server's key verify a block?
 func (x *watch) vouched(v api.Value) bool {
-	return pledge.Check(v, x.w.House.Signer, letters(x.w.House.Signer.Seed)) == api.OK
+	s, _ := canon.Print(v)
+	if _, met := x.checked[s]; !met {
+		x.checked[s] = pledge.Check(v, x.w.House.Signer, letters(x.w.House.Signer.Seed)) == api.OK
+	}
+	return x.checked[s]
 }
 
 // one looks at a block that is vouched for: it names whom the token is bound to, always in the same bytes.
@@ -128,9 +134,39 @@ func (x *watch) event(r api.Room, i int) {
 func (x *watch) act(a api.Act) api.Told {
 	x.t.Helper()
 	w, told := Do(x.w, a)
+	x.apart(a, w)
 	x.w = w
 	x.see()
 	return told
+}
+
+// apart looks at P28.2: an act at one homeserver changes no other one.
+func (x *watch) apart(a api.Act, after api.World) {
+	x.t.Helper()
+	at := -1
+	switch a.Kind {
+	case api.ActOrder, api.ActInvite, api.ActSync:
+		at = a.N % 3
+	case api.ActDeliver:
+		if n := len(x.w.Net); n > 0 {
+			to := x.w.Net[a.N%n].To
+			at = slices.IndexFunc(x.w.Homes, func(h api.Home) bool { return h.Signer.Server == to })
+		}
+	}
+	for i, h := range x.w.Homes {
+		if i != at && traces(h) != traces(after.Homes[i]) {
+			x.t.Fatal("another homeserver changed", a.Kind, i)
+		}
+	}
+}
+
+// traces are what shows whether a homeserver has changed.
+func traces(h api.Home) string {
+	s := fmt.Sprint(h.Claims, h.Now)
+	for _, r := range h.Rooms {
+		s += fmt.Sprint(len(r.Events), len(r.States), r.Soft, r.Rejected)
+	}
+	return s
 }
 
 // chance draws an act: of people, of the net, of the power, and of who forges.
@@ -189,7 +225,7 @@ func TestWhole(t *testing.T) {
 		if e != api.OK {
 			t.Fatal(e)
 		}
-		x := &watch{play{t, w}, map[string]string{}, map[string]string{}, map[string]bool{}, 0}
+		x := &watch{play{t, w}, map[string]string{}, map[string]string{}, map[string]bool{}, 0, map[string]bool{}}
 		start(x)
 		for i := range 220 {
 			a := chance(rnd, i)

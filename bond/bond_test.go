@@ -26,7 +26,7 @@ func many(n int) []api.Bond {
 
 func TestRight(t *testing.T) {
 	phone := api.Bond{Who: api.Address{Medium: "msisdn", Where: "123456"}, Mxid: "@a:h", Since: 1 << 40}
-	for i, l := range [][]api.Bond{nil, many(64), {bond("a", "a"), phone}, {bond("a", "a"), bond("b", "a")}} {
+	for i, l := range [][]api.Bond{nil, many(64), {bond("a", "a"), phone}, {bond("a", "a"), bond("b", "a")}, {{Who: mail("a"), Mxid: "@a:h"}}} {
 		if !Right(l) {
 			t.Error(i)
 		}

@@ -11,7 +11,7 @@ func rep(s string, n int) string { return strings.Repeat(s, n) }
 
 // P5.1: names of servers, by their edges.
 func TestServer(t *testing.T) {
-	for _, s := range []string{"h", "H", "1", "a.b", "a-b", "a--b", "a.-b", "example.org:8448", "h:1", "h:00000", "h:99999", rep("a", 230), rep("a", 230) + ":12345"} {
+	for _, s := range []string{"h", "H", "1", "AZaz09", "a.b", "a-b", "a--b", "a.-b", "example.org:8448", "h:1", "h:00000", "h:99999", rep("a", 230), rep("a", 230) + ":12345"} {
 		if !Server(s) {
 			t.Error(s)
 		}

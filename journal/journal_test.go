@@ -120,6 +120,7 @@ func TestHolds(t *testing.T) {
 		{[]api.Sector{head(5, 1), a, sealed(5, 2, 1, rep("b", 100)), sealed(5, 3, 2, "")}, "a", true},
 		{[]api.Sector{head(5, 3), sealed(5, 1, 1, rep("b", 100)), sealed(5, 2, 0, rep("c", 100)), sealed(5, 3, 2, "d")}, rep("b", 100) + rep("c", 100) + "d", true},
 		{[]api.Sector{head(5, 2), sealed(5, 1, 1, rep("b", 100)), sealed(5, 2, 0, rep("c", 100)), sealed(5, 3, 2, "d")}, "", false},
+		{[]api.Sector{head(5, 0), a, sealed(5, 2, 3, "b"), sealed(5, 3, 3, "c"), sealed(5, 4, 3, "the other half")}, "a|b|c", true},
 		{[]api.Sector{head(5, 1)}, "", false}, {[]api.Sector{head(5, 1), z}, "", false}, {[]api.Sector{head(5, 1), hurt}, "", false}, {[]api.Sector{head(5, 1), behind}, "", false},
 		{[]api.Sector{head(5, 2), a, torn}, "", false}, {[]api.Sector{head(5, 1), sealed(4, 1, 3, "a")}, "", false}, {[]api.Sector{head(5, 1), sealed(5, 2, 3, "a")}, "", false},
 		{[]api.Sector{head(5, 4), a}, "", false}, {[]api.Sector{head(5, 3), a, sealed(5, 2, 3, ""), sealed(5, 3, 3, "")}, "a||", true},
@@ -215,6 +216,13 @@ func TestErrors(t *testing.T) {
 		t.Error(e)
 	}
 	if _, l, e := Compact(d, good, four[:3]); e != api.OK || l.Used != 4 {
+		t.Error(l, e)
+	}
+	wide, most := fresh(t, 84), long[:4096]
+	if after, l, e := Append(wide, good, most); e != api.OK || l.Used != 42 || len(after.Loose) > 0 {
+		t.Error(l, e)
+	}
+	if _, l, e := Compact(wide, good, [][]byte{most}); e != api.OK || l.Used != 42 {
 		t.Error(l, e)
 	}
 	for _, h := range []int{-1, 2, math.MinInt} {

@@ -34,6 +34,15 @@ func nest(n int) api.Value {
 	return v
 }
 
+// into is an object in an object, so many deep.
+func into(n int) api.Value {
+	v := object()
+	for range n - 1 {
+		v = object("a", v)
+	}
+	return v
+}
+
 func TestParseTrees(t *testing.T) {
 	for _, x := range []struct {
 		text string
@@ -51,7 +60,8 @@ func TestParseTrees(t *testing.T) {
 		{"\"\x7f/\"", text("\x7f/")},
 		{`"\"\\\/\b\f\n\r\t"`, text("\"\\/\b\f\n\r\t")},
 		{`"\u0000\u00e9\u00E9\uffff\ud800\udc00\uDBFF\uDFFF"`, text("\x00éé\uffff\U00010000\U0010ffff")},
-		{`"é€😀"`, text("é€😀")},
+		{`"\u000a\u000A\u00aF\ud7ff\ue000"`, text("\n\n\u00af\xed\x9f\xbf\xee\x80\x80")},
+		{`"é€😀 "`, text("é€😀 ")},
 		{`[]`, list()},
 		{"[ \t\n\r]", list()},
 		{`[1,[2],{}]`, list(num(1), list(num(2)), object())},
@@ -85,7 +95,7 @@ func TestParseErrors(t *testing.T) {
 		{"1 9007199254740992", api.ErrForm},
 		{"\"\xff\"", api.ErrForm}, {deep + "[\xff", api.ErrForm},
 		{"\"a", api.ErrForm}, {"\"\n\"", api.ErrForm}, {"\"\x1f\"", api.ErrForm}, {`"\x"`, api.ErrForm}, {`"\`, api.ErrForm}, {"\"\\\x00\"", api.ErrForm},
-		{`"\u12"`, api.ErrForm}, {`"\u12g4"`, api.ErrForm}, {`"\ud800"`, api.ErrForm}, {`"\ud800\u0041"`, api.ErrForm}, {`"\ud800x\udc00"`, api.ErrForm}, {`"\udc00"`, api.ErrForm}, {`"\ud800\ud800"`, api.ErrForm}, {`"\U0041"`, api.ErrForm},
+		{`"\u12"`, api.ErrForm}, {`"\u12g4"`, api.ErrForm}, {`"\ud800"`, api.ErrForm}, {`"\ud800\u0041"`, api.ErrForm}, {`"\ud800x\udc00"`, api.ErrForm}, {`"\udc00"`, api.ErrForm}, {`"\udc00\udc00"`, api.ErrForm}, {`"\ud800\ue000"`, api.ErrForm}, {`"\ud800\udbff"`, api.ErrForm}, {`"\u00/0"`, api.ErrForm}, {`"\u00:0"`, api.ErrForm}, {"\"\\u00`0\"", api.ErrForm}, {`"\u00@0"`, api.ErrForm}, {`"\u00G0"`, api.ErrForm}, {`"\ud800\ud800"`, api.ErrForm}, {`"\U0041"`, api.ErrForm},
 		{"[1,]", api.ErrForm}, {"[,1]", api.ErrForm}, {"[1 2]", api.ErrForm}, {"[1", api.ErrForm}, {"]", api.ErrForm}, {"[1}", api.ErrForm},
 		{"{1:2}", api.ErrForm}, {`{"a"}`, api.ErrForm}, {`{"a":}`, api.ErrForm}, {`{"a":1,}`, api.ErrForm}, {`{"a" 1}`, api.ErrForm}, {`{"a":1`, api.ErrForm}, {`{a:1}`, api.ErrForm},
 		{deep + "[", api.ErrDeep}, {deep + "{", api.ErrDeep}, {strings.Repeat(`{"a":`, 13), api.ErrDeep}, {deep + "[9007199254740992", api.ErrDeep},
@@ -191,13 +201,14 @@ func TestRight(t *testing.T) {
 		text("\xff"), {Kind: api.Text, Num: 1}, {Kind: api.Text, Names: []string{"a"}},
 		{Kind: api.List, Names: []string{"a"}, Items: []api.Value{{}}}, {Kind: api.List, Num: 1}, list(text("\xff")), nest(13),
 		object("b", num(1), "a", num(2)), object("a", num(1), "a", num(2)), object("\xff", num(1)), object("a", nest(12)), object("a", num(api.MaxInt+1)),
+		into(13), list(into(12)), object("b", into(12)),
 		{Kind: api.Object, Names: []string{"a"}}, {Kind: api.Object, Items: []api.Value{{}}}, {Kind: api.Object, Text: "x"},
 	} {
 		if Right(v) || Same(v, v) {
 			t.Error(i, v)
 		}
 	}
-	for i, v := range []api.Value{{}, {Names: []string{}, Items: []api.Value{}}, num(api.MaxInt), nest(12), object("", num(1), "a", nest(11))} {
+	for i, v := range []api.Value{{}, into(12), list(into(11)), {Names: []string{}, Items: []api.Value{}}, num(api.MaxInt), nest(12), object("", num(1), "a", nest(11))} {
 		if !Right(v) || !Same(v, v) {
 			t.Error(i, v)
 		}

@@ -96,8 +96,10 @@ func TestStore(t *testing.T) {
 	if _, e := Store(many(32), one("t100", "a")); e != api.ErrTwice {
 		t.Error(e)
 	}
-	if p, ok := Find(l, "d"); !ok || p != l[1] {
-		t.Error(p)
+	for i, token := range []string{"b", "d"} {
+		if p, ok := Find(l, token); !ok || p != l[i] {
+			t.Error(p)
+		}
 	}
 	if p, ok := Find(l, "c"); ok || p != (api.Pledge{}) {
 		t.Error(p)

@@ -28,7 +28,7 @@ func show(v api.Value) string {
 }
 
 func TestKey(t *testing.T) {
-	for _, s := range []string{"ed25519:1", "ed25519:aZ_09", "ed25519:" + strings.Repeat("x", 32)} {
+	for _, s := range []string{"ed25519:1", "ed25519:azAZ_09", "ed25519:" + strings.Repeat("x", 32)} {
 		if !Key(s) {
 			t.Error(s)
 		}
@@ -48,6 +48,14 @@ func TestMessage(t *testing.T) {
 	list := parse(t, `[1]`)
 	wrong := api.Value{Kind: api.Object, Names: []string{"unsigned", "a"}, Items: make([]api.Value, 2)}
 	long := api.Value{Kind: api.Object, Names: []string{"a"}, Items: []api.Value{{Kind: api.Text, Text: strings.Repeat("x", 9000)}}}
+	signed := api.Value{Kind: api.Object, Names: []string{"signatures", "x"}, Items: []api.Value{parse(t, `{"h":{"k":"s"}}`), {}}}
+	if len(Signers(signed)) != 1 {
+		t.Error(Signers(signed))
+	}
+	signed.Items[1].Text = "not right"
+	if len(Signers(signed)) > 0 {
+		t.Error(Signers(signed))
+	}
 	if !json.Same(Strip(list), list) || !slices.Equal(Strip(wrong).Names, wrong.Names) {
 		t.Error("strip")
 	}

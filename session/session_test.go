@@ -84,8 +84,10 @@ func TestBounds(t *testing.T) {
 			t.Error(now, e, f)
 		}
 	}
-	if s, ok := Find(l, 20); !ok || s != l[1] {
-		t.Error(s, ok)
+	for i, s := range l {
+		if found, ok := Find(l, s.ID); !ok || found != l[i] {
+			t.Error(found, ok)
+		}
 	}
 	if s, ok := Find(l, 21); ok || s != (api.Session{}) {
 		t.Error(s, ok)

@@ -108,7 +108,7 @@ func TestBuildErrors(t *testing.T) {
 		{func(e *api.Event) { e.Key = strings.Repeat("é", 127) + "x" }, 0}, {func(e *api.Event) { e.Key = strings.Repeat("é", 128) }, 1}, {func(e *api.Event) { e.Key = "\xff" }, 1}, {func(e *api.Event) { e.Key = "" }, 0}, {func(e *api.Event) { e.State = false }, 1}, {func(e *api.Event) { e.State, e.Key = false, "" }, 0},
 		{func(e *api.Event) { e.Content = api.Value{} }, 1}, {func(e *api.Event) { e.Content = api.Value{Kind: api.List} }, 1}, {func(e *api.Event) { e.Content = api.Value{Kind: api.Object, Num: 1} }, 1}, {func(e *api.Event) { e.Content = deep }, 1}, {func(e *api.Event) { e.Content = deep.Items[0] }, 0},
 		{func(e *api.Event) { e.Prev = numbered(20) }, 0}, {func(e *api.Event) { e.Prev = numbered(21) }, 1}, {func(e *api.Event) { e.Auth = numbered(10) }, 0}, {func(e *api.Event) { e.Auth = numbered(11) }, 1}, {func(e *api.Event) { e.Prev = []string{id(1), id(1)} }, 1}, {func(e *api.Event) { e.Auth = []string{"$x"} }, 1}, {func(e *api.Event) { e.Prev, e.Auth = nil, nil }, 0},
-		{func(e *api.Event) { e.Depth = 0 }, 1}, {func(e *api.Event) { e.Depth = 1 << 40 }, 0}, {func(e *api.Event) { e.Depth = 1<<40 + 1 }, 1}, {func(e *api.Event) { e.Time = -1 }, 1}, {func(e *api.Event) { e.Time = 1 << 40 }, 0}, {func(e *api.Event) { e.Time = math.MaxInt }, 1},
+		{func(e *api.Event) { e.Depth, e.Time = 1, 0 }, 0}, {func(e *api.Event) { e.Depth = 0 }, 1}, {func(e *api.Event) { e.Depth = 1 << 40 }, 0}, {func(e *api.Event) { e.Depth = 1<<40 + 1 }, 1}, {func(e *api.Event) { e.Time = -1 }, 1}, {func(e *api.Event) { e.Time = 1 << 40 }, 0}, {func(e *api.Event) { e.Time = math.MaxInt }, 1},
 	} {
 		e := good
 		x.change(&e)

@@ -95,6 +95,13 @@ func TestRight(t *testing.T) {
 		}
 		step(t, h, create("@a:h", "!r:h"), api.ErrArg)
 	}
+	for _, now := range []int{0, 1 << 40} {
+		h := home("h")
+		h.Now = now
+		if !Right(h) {
+			t.Error(now)
+		}
+	}
 	h := home("h:1")
 	if !Own(h, "@a:h:1") || Own(h, "@a:h") || Own(h, "!a:h:1") || Own(h, "") || Own(h, "@A:h:1") {
 		t.Error("own")
@@ -227,6 +234,20 @@ func TestExchange(t *testing.T) {
 		}
 	}
 	step(t, after, change(func(o *api.Order) { o.User = "@y:g" }), api.ErrForm)
+	// Another token of the room is another claim, and a token of another room, too.
+	two, _ := step(t, after, api.Order{Kind: api.OrdThird, User: "@a:h", Room: "!r:h", Token: "tik", Public: letters("id")}, 0)
+	two, r = step(t, two, change(func(o *api.Order) { o.User, o.Content = "@y:g", signed(t, "@y:g", "@a:h", "tik", "id") }), 0)
+	if r.Events[0].Key != "@y:g" || len(two.Claims) != 2 || two.Claims[1].Token != "tik" {
+		t.Error(two.Claims)
+	}
+	two, _ = step(t, two, create("@a:h", "!q:h"), 0)
+	step(t, two, change(func(o *api.Order) { o.Room = "!q:h" }), api.ErrNone)
+	// At a homeserver of another one than the inviter's it isn't made.
+	g := home("g", "h")
+	for _, e := range h.Rooms[0].Events {
+		g, _ = step(t, g, api.Order{Kind: api.OrdEvent, Event: e}, 0)
+	}
+	step(t, g, good, api.ErrArg)
 	gone, _ := step(t, h, api.Order{Kind: api.OrdRevoke, User: "@a:h", Room: "!r:h", Token: "tok"}, 0)
 	step(t, gone, good, api.ErrReject)
 	still, _ := step(t, after, api.Order{Kind: api.OrdRevoke, User: "@a:h", Room: "!r:h", Token: "tok"}, 0)
@@ -317,6 +338,9 @@ func TestNotGood(t *testing.T) {
 	h.Rooms = append(h.Rooms, api.Room{}, api.Room{Events: make([]api.Event, 2)}, api.Room{Events: r.Events[1:]})
 	h.Rooms[0].States = nil
 	h.Claims = []api.Claim{{Room: "!r:h", Token: "tok", Event: "none"}}
+	if _, ok := Room(h, "!none:h"); ok {
+		t.Error("a room")
+	}
 	for kind := range 9 {
 		Step(h, api.Order{Kind: kind, User: "@a:h", Room: "!r:h", Type: "m", Content: signed(t, "@a:h", "@a:h", "tok", "id"), Event: r.Events[0]})
 	}

@@ -206,6 +206,35 @@ func TestBindAndStore(t *testing.T) {
 	x.step(0, store)
 }
 
+// What is full is told, and nothing is changed.
+func TestFull(t *testing.T) {
+	x := begin(t)
+	x.step(0, api.Ask{Kind: api.AskRequest, Token: "tb", Secret: "s", Medium: "email", Where: "b@b.c", ID: 1, Attempt: 1, Draws: []string{"k"}})
+	x.step(0, api.Ask{Kind: api.AskSubmit, ID: 1, Secret: "s", Code: "k"})
+	store := api.Ask{Kind: api.AskStore, Token: "ta", Medium: "email", Where: "b@b.c", Room: "!r:h", Sender: "@a:h"}
+	for i := range 33 {
+		store.Draws = []string{"tok" + strconv.Itoa(i), "seed"}
+		if i < 32 {
+			x.step(0, store)
+		} else {
+			x.step(api.ErrFull, store)
+		}
+	}
+	for i := range 64 {
+		x.s.Bonds = append(x.s.Bonds, api.Bond{Who: api.Address{Medium: "msisdn", Where: strconv.Itoa(100000 + i)}, Mxid: "@a:h"})
+	}
+	bind := api.Ask{Kind: api.AskBind, Token: "tb", Mxid: "@b:h", ID: 1, Secret: "s"}
+	x.step(api.ErrFull, bind)
+	x.s.Bonds = x.s.Bonds[:63]
+	if r := x.step(0, bind); len(r.Blocks) != 32 {
+		t.Error(len(r.Blocks))
+	}
+	for i := range 13 {
+		x.step(0, api.Ask{Kind: api.AskRegister, Draws: []string{"u" + strconv.Itoa(i)}, Mxid: "@u:h"})
+	}
+	x.step(api.ErrFull, api.Ask{Kind: api.AskRegister, Draws: []string{"z"}, Mxid: "@u:h"})
+}
+
 func TestTick(t *testing.T) {
 	x := begin(t)
 	for _, n := range []int{-1, 1<<40 + 1, math.MaxInt, math.MinInt} {

@@ -159,6 +159,7 @@ func TestLine(t *testing.T) {
 		{"T3 T2 T1 T4 C", "Px", "C T3 T2 T1 T4"},
 		{"T4 P Px", "Px", "P Px T4"},
 		{"T3 T2 T1", "T2", "T1 T3 T2"},
+		{"T3 T5", "T5", "T5 T3"},
 		{"", "P", ""},
 	} {
 		var top string
@@ -192,6 +193,33 @@ func TestDifference(t *testing.T) {
 		got, e := Difference(b.g, l)
 		if e != api.OK || b.words(got) != x.want {
 			t.Error(i, b.words(got), e)
+		}
+	}
+}
+
+// What the state hasn't, an event brings along: here all that it leans on, the creation first.
+func TestBroughtAlong(t *testing.T) {
+	b := begin(t)
+	b.add("T1", "@b:h", "m.room.topic", "", `{"topic":"1"}`, "K", "C P B", 30)
+	b.add("T2", "@c:h", "m.room.topic", "", `{"topic":"2"}`, "K", "C P K", 20)
+	b.resolve("B K T1", "T1", "T2")
+	b.resolve("C B K T1", "C T1", "C T2")
+	b.resolve("C J A K T2", "C A J T2", "C A J K")
+}
+
+// What counts as power: by its slot, and of a member by another one's hand alone.
+func TestPowerEvents(t *testing.T) {
+	b := begin(t)
+	for _, x := range []struct {
+		word, sender, kind, key, content string
+		want                             bool
+	}{
+		{"1", "@a:h", "m.room.power_levels", "", `{}`, true}, {"2", "@a:h", "m.room.power_levels", "x", `{}`, false}, {"3", "@a:h", "m.room.power_levels", "-", `{}`, false}, {"4", "@a:h", "m.room.join_rules", "", `{}`, true}, {"5", "@a:h", "m.room.join_rules", "x", `{}`, false}, {"6", "@a:h", "m.room.topic", "", `{}`, false},
+		{"7", "@a:h", "m.room.member", "@b:h", ban, true}, {"8", "@a:h", "m.room.member", "@b:h", leave, true}, {"9", "@b:h", "m.room.member", "@b:h", leave, false}, {"10", "@a:h", "m.room.member", "@b:h", `{"membership":"invite"}`, false}, {"11", "@a:h", "m.room.member", "", ban, true}, {"12", "@a:h", "m.room.member", "-", ban, false},
+	} {
+		b.add(x.word, x.sender, x.kind, x.key, x.content, "K", "C P", 9)
+		if got := isPower(b.find(b.word[x.word])); got != x.want {
+			t.Error(x.word, got)
 		}
 	}
 }

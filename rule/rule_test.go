@@ -5,6 +5,7 @@ import (
 	"math/rand"
 	"reflect"
 	"slices"
+	"strconv"
 	"strings"
 	"testing"
 
@@ -179,14 +180,14 @@ func TestOthers(t *testing.T) {
 }
 
 func TestLevels(t *testing.T) {
-	const old = `{"users":{"@c:h":60,"@d:h":50,"@e:h":60,"@f:h":70},"events":{"high":70,"low":10,"m.room.power_levels":20},"kick":70,"invite":10}`
+	const old = `{"users":{"@c:h":60,"@d:h":50,"@e:h":60,"@f:h":70,"@l:h":59},"events":{"high":70,"low":10,"m.room.power_levels":20},"kick":70,"invite":10}`
 	for i, y := range []struct {
 		levels, next string
 		may          bool
 	}{
 		{old, old, true}, {"", `{}`, true}, {"", `{"users":{"@x:h":1000},"ban":1000}`, true},
 		{old, strings.Replace(old, `"@d:h":50`, `"@d:h":60`, 1), true}, {old, strings.Replace(old, `"@d:h":50`, `"@d:h":61`, 1), false}, {old, strings.Replace(old, `"@d:h":50,`, ``, 1), true},
-		{old, strings.Replace(old, `"@e:h":60`, `"@e:h":59`, 1), false}, {old, strings.Replace(old, `"@e:h":60,`, ``, 1), false}, {old, strings.Replace(old, `"@c:h":60`, `"@c:h":1`, 1), true}, {old, strings.Replace(old, `"@c:h":60,`, ``, 1), true}, {old, strings.Replace(old, `"@c:h":60`, `"@c:h":61`, 1), false}, {old, strings.Replace(old, `"@f:h":70`, `"@f:h":1`, 1), false},
+		{old, strings.Replace(old, `"@l:h":59`, `"@l:h":1`, 1), true}, {old, strings.Replace(old, `"@e:h":60`, `"@e:h":59`, 1), false}, {old, strings.Replace(old, `"@e:h":60,`, ``, 1), false}, {old, strings.Replace(old, `"@c:h":60`, `"@c:h":1`, 1), true}, {old, strings.Replace(old, `"@c:h":60,`, ``, 1), true}, {old, strings.Replace(old, `"@c:h":60`, `"@c:h":61`, 1), false}, {old, strings.Replace(old, `"@f:h":70`, `"@f:h":1`, 1), false},
 		{old, strings.Replace(old, `"@d:h":50`, `"@d:h":50,"@g:h":60`, 1), true}, {old, strings.Replace(old, `"@d:h":50`, `"@d:h":50,"@g:h":61`, 1), false},
 		{old, strings.Replace(old, `"low":10`, `"low":60`, 1), true}, {old, strings.Replace(old, `"low":10`, `"low":61`, 1), false}, {old, strings.Replace(old, `"low":10,`, ``, 1), true}, {old, strings.Replace(old, `"high":70`, `"high":1`, 1), false}, {old, strings.Replace(old, `"high":70,`, ``, 1), false}, {old, strings.Replace(old, `"low"`, `"new":61,"low"`, 1), false}, {old, strings.Replace(old, `"low"`, `"new":60,"low"`, 1), true},
 		{old, strings.Replace(old, `"kick":70`, `"kick":50`, 1), false}, {old, strings.Replace(old, `,"invite":10`, ``, 1), true}, {old, strings.Replace(old, `"invite":10`, `"invite":61`, 1), false}, {old, strings.Replace(old, `"invite":10`, `"invite":10,"ban":50`, 1), true}, {old, strings.Replace(old, `"invite":10`, `"invite":10,"ban":61`, 1), false}, {old, strings.Replace(old, `"invite":10`, `"invite":10,"redact":60`, 1), true},
@@ -308,7 +309,11 @@ func TestWrong(t *testing.T) {
 			t.Error(i)
 		}
 	}
-	if !State(nil) || !State(good) {
+	var many events
+	for i := range 129 {
+		many = append(many, ev(t, "@a:h", "m", "key:"+strconv.Itoa(i), `{}`))
+	}
+	if !State(nil) || !State(good) || !State(many[:128]) || State(many) || Allowed(many, e) != api.ErrArg {
 		t.Error("state")
 	}
 }
@@ -316,6 +321,11 @@ func TestWrong(t *testing.T) {
 // Of any list the first event of a slot counts.
 func TestAnyList(t *testing.T) {
 	odd := api.Event{State: true, Type: ofMember, Key: "@a:h", Content: api.Value{Kind: api.Object, Names: []string{"membership", "x"}, Items: []api.Value{{Kind: api.Text, Text: "odd"}}}}
+	number := odd
+	number.Key, number.Content = "@n:h", api.Value{Kind: api.Object, Names: []string{"membership"}, Items: []api.Value{{Kind: api.Number, Text: "odd"}}}
+	if Membership(events{number}, "@n:h") != "" {
+		t.Error("no text")
+	}
 	plain := odd
 	plain.State = false
 	l := events{plain, odd, member(t, "@a:h", "@a:h", "join")}

@@ -233,7 +233,7 @@ func TestNew(t *testing.T) {
 		server         string
 		sectors, homes int
 		want           api.Errno
-	}{{"s0", 300, 1, api.ErrArg}, {"s2", 300, 3, api.ErrArg}, {"s2", 300, 2, 0}, {"s3", 8, 3, 0}, {"id", 7, 1, api.ErrArg}, {"", 300, 1, api.ErrArg}} {
+	}{{"s0", 300, 1, api.ErrArg}, {"s2", 300, 3, api.ErrArg}, {"s2", 300, 2, 0}, {"s3", 8, 3, 0}, {"s1", 300, 1, 0}, {"id", 7, 1, api.ErrArg}, {"", 300, 1, api.ErrArg}} {
 		h.Signer.Server = x.server
 		w, e := New(h, x.sectors, x.homes)
 		if e != x.want || e == api.OK && len(w.Homes) != x.homes {

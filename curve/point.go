@@ -101,16 +101,34 @@ func crossed(e, f, g, h field.Limbs) point {
 	return point{plane{e.Times(f), g.Times(h)}, f.Times(g), e.Times(h)}
 }
 
-// many is each of the points so many times, together.
+// nothing is the point (0, 1), which changes no sum.
+func nothing() point {
+	return plane{y: field.Small(1)}.raised()
+}
+
+// multiples are a point 0 to 15 times.
+func multiples(p point) [16]point {
+	m := [16]point{nothing()}
+	for i := range 15 {
+		m[i+1] = m[i].with(p)
+	}
+	return m
+}
+
+// many is each of the points so many times, together; four bits at once, the highest first, so that fewer sums are needed.
 func many(times [][32]byte, points []point) point {
-	r := plane{y: field.Small(1)}.raised()
-	for i := range 256 {
-		r = r.doubled()
-		at := 255 - i
-		for j, p := range points {
-			if times[j][at/8]>>(at%8)&1 == 1 {
-				r = r.with(p)
-			}
+	tables := make([][16]point, len(points))
+	for j, p := range points {
+		tables[j] = multiples(p)
+	}
+	r := nothing()
+	for i := range 64 {
+		at := 63 - i
+		for range 4 {
+			r = r.doubled()
+		}
+		for j := range tables {
+			r = r.with(tables[j][times[j][at/2]>>(4*(at%2))&15])
 		}
 	}
 	return r
